@@ -1,5 +1,20 @@
-// Package packed tells numbers and texts as bytes, and reads them: what layers 28, 29, 30 and 33 have in common.
+// Package packed tells numbers and texts as bytes, and reads them, and tells bytes as digits: what several layers have in common.
 package packed
+
+import "strings"
+
+// digits are the hexadecimal ones, each in its place.
+const digits = "0123456789abcdef"
+
+// Hex are bytes' hexadecimal digits, small letters, two a byte.
+func Hex(b []byte) string {
+	var text strings.Builder
+	for _, x := range b {
+		text.WriteByte(digits[x>>4])
+		text.WriteByte(digits[x&15])
+	}
+	return text.String()
+}
 
 // Number is one as so many bytes, the highest first.
 func Number(n uint64, size int) []byte {

@@ -13,6 +13,9 @@ func TestTold(t *testing.T) {
 	if !bytes.Equal(got, []byte{0, 0, 1, 2, 2, 'a', 'b', 0, 3}) {
 		t.Errorf("%x", got)
 	}
+	if s := packed.Hex([]byte{0, 0x1f, 0xa0}); s != "001fa0" || packed.Hex(nil) != "" {
+		t.Errorf("digits: %q", s)
+	}
 	if len(packed.Number(1, -1)) != 0 {
 		t.Error("fewer bytes than none")
 	}

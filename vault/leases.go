@@ -6,6 +6,7 @@ import (
 	"bursary/api"
 	"bursary/clock"
 	"bursary/lease"
+	"bursary/packed"
 	"bursary/path"
 	"bursary/policy"
 	"bursary/wire"
@@ -29,7 +30,7 @@ func (a *ask) leaseIssue() ([][]byte, error) {
 		return nil, api.ErrShort
 	}
 	most := a.t.Most
-	x := lease.Lease{ID: "l" + hex(a.draws[:nameDraws]), Token: a.t.Accessor, Path: p, Until: min(until, most), Most: most}
+	x := lease.Lease{ID: "l" + packed.Hex(a.draws[:nameDraws]), Token: a.t.Accessor, Path: p, Until: min(until, most), Most: most}
 	l, err := lease.Issue(a.s.Leases, x)
 	if err != nil {
 		return nil, err

@@ -8,6 +8,7 @@ import (
 	"bursary/api"
 	"bursary/clock"
 	"bursary/lease"
+	"bursary/packed"
 	"bursary/policy"
 	"bursary/token"
 	"bursary/wire"
@@ -23,25 +24,12 @@ const (
 // separator stands between policies' names.
 const separator = ","
 
-// digits are the hexadecimal ones, each in its place.
-const digits = "0123456789abcdef"
-
-// hex are bytes' hexadecimal digits.
-func hex(b []byte) string {
-	var text strings.Builder
-	for _, x := range b {
-		text.WriteByte(digits[x>>4])
-		text.WriteByte(digits[x&15])
-	}
-	return text.String()
-}
-
 // born lets a state have a token more, whose secret and accessor are drawn: these two.
 func (s *State) born(t token.Token, draws []byte) (string, string, error) {
 	if len(draws) < tokenDraws {
 		return "", "", api.ErrShort
 	}
-	secret, accessor := hex(draws[:secretDraws]), "t"+hex(draws[secretDraws:tokenDraws])
+	secret, accessor := packed.Hex(draws[:secretDraws]), "t"+packed.Hex(draws[secretDraws:tokenDraws])
 	t.Sum, t.Accessor = token.Sum(s.Salt, []byte(secret)), accessor
 	l, err := token.Create(s.Tokens, t, s.Now)
 	if err != nil {
