@@ -26,6 +26,9 @@ func TestCO1(t *testing.T) {
 	if b, err := config.Encode(of(2, 255, 0x01020304)); err != nil || string(b) != "cf\x02\xff\x01\x02\x03\x04" {
 		t.Errorf("the highest byte first: %x %v", b, err)
 	}
+	if c, err := config.Decode([]byte("cf\x02\xff\x01\x02\x03\x04")); err != nil || c != of(2, 255, 0x01020304) {
+		t.Errorf("the highest byte first: %v %v", c, err)
+	}
 	if c, err := config.Next(c, 255, 255); err != nil || c != of(255, 255, 2) {
 		t.Errorf("Next: %v %v", c, err)
 	}

@@ -67,6 +67,9 @@ func TestGC1Sealed(t *testing.T) {
 		t.Errorf("a hundred boxes: %x", all)
 	}
 	box, err = newKey(t, some(32, 5)).Seal(some(12, 6), some(2048, 7), some(2048, 8))
+	if !newKey(t, some(32, 5)).Opens(some(12, 6), box, some(2048, 8)) {
+		t.Error("as much as can be sealed is not opened")
+	}
 	if all := sha.Sum(box); err != nil || digits(all[:]) != "a820345caf7809a11abe8324ed7a302053e52a17b56b646145cd8edd76fda3bf" {
 		t.Errorf("as much as can be sealed: %x %v", all, err)
 	}

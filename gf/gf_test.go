@@ -148,6 +148,25 @@ func TestNilTable(t *testing.T) {
 	}
 }
 
+// TestFirstAsked: each call reckons the powers, where it is the first one.
+func TestFirstAsked(t *testing.T) {
+	if n := gf.New().Mul(2, 3); n != 6 {
+		t.Errorf("Mul: %d", n)
+	}
+	if n, err := gf.New().Div(6, 3); err != nil || n != 2 {
+		t.Errorf("Div: %d %v", n, err)
+	}
+	if n, err := gf.New().Inv(3); err != nil || slow(n, 3) != 1 {
+		t.Errorf("Inv: %d %v", n, err)
+	}
+	if n, err := gf.New().Pow(2, 3); err != nil || n != 8 {
+		t.Errorf("Pow: %d %v", n, err)
+	}
+	if n, err := gf.New().Log(3); err != nil || n != 1 {
+		t.Errorf("Log: %d %v", n, err)
+	}
+}
+
 // TestFirstAskedAtOnce asks a new Table from many places.
 func TestFirstAskedAtOnce(t *testing.T) {
 	g := gf.New()

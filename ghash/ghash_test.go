@@ -74,6 +74,17 @@ func TestGH1(t *testing.T) {
 	if got := ghash.Hash(h, long, nil); got != ghash.Mul(ghash.Add(sum, last), h) {
 		t.Errorf("of bytes beside: %x", got)
 	}
+	// So many bytes that their bits need three bytes.
+	many := bytes.Repeat([]byte{1, 2, 3, 4, 5, 6, 7, 8}, 1<<10)
+	want := aes.Block{}
+	for i := 0; i < 2*len(many); i += 16 {
+		at := i % len(many)
+		want = ghash.Mul(ghash.Add(want, aes.Block(many[at:at+16])), h)
+	}
+	want = ghash.Mul(ghash.Add(want, aes.Block{5: 1, 13: 1}), h)
+	if got := ghash.Hash(h, many, many); got != want {
+		t.Errorf("of many bytes: %x", got)
+	}
 	if !bytes.Equal(long[:16], bytesOf(some(1))) {
 		t.Error("what was handed in is changed")
 	}

@@ -67,6 +67,12 @@ func TestHM1(t *testing.T) {
 	if got != "94520b1b3cca7d68756d62c39a18b1525c612b87f53ecf0de74448acceffe784" {
 		t.Errorf("parts: %s", got)
 	}
+	for n, head := range map[int][]byte{70000: {0, 1, 0x11, 0x70}, 1<<24 + 2: {1, 0, 0, 2}} {
+		long := make([]byte, n)
+		if hmac.Parts([]byte("k"), long) != hmac.Mac([]byte("k"), append(head, long...)) {
+			t.Errorf("a part of %d bytes", n)
+		}
+	}
 	if hmac.Parts([]byte("k")) != hmac.Mac([]byte("k"), nil) {
 		t.Error("no parts")
 	}

@@ -110,10 +110,18 @@ func TestHS1(t *testing.T) {
 	if text != "" || n != 91+6 || testcode.Of(err) != api.ErrLong {
 		t.Errorf("too much: %d %d %v", len(text), n, err)
 	}
+	// Lines of 8 bytes, and some of 3, that fill what is left to the byte; one more is too much.
 	left := 65536 - 91*3 - 5*90*139
-	fill := strings.Repeat("show\n", left/8) + strings.Repeat("limit 1\n", left%8/3)
-	if text, _, err := house.Play(full + strings.Repeat("sectors\n", 5) + fill); err != nil || len(text) > 65536 || len(text) < 65530 {
+	few := 0
+	for (left-3*few)%8 != 0 {
+		few++
+	}
+	fill := full + strings.Repeat("sectors\n", 5) + strings.Repeat("show\n", (left-3*few)/8) + strings.Repeat("limit 1\n", few)
+	if text, _, err := house.Play(fill); err != nil || len(text) != 65536 {
 		t.Errorf("as much as may be: %d %v", len(text), err)
+	}
+	if text, n, err := house.Play(fill + "sectors\nlimit 1"); text != "" || testcode.Of(err) != api.ErrLong || n != 91+5+(left-3*few)/8+few+1 {
+		t.Errorf("a byte too much: %d %v", n, err)
 	}
 }
 

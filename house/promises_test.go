@@ -265,6 +265,32 @@ func TestP6(t *testing.T) {
 	}
 }
 
+// TestFirstLimit: a term has 2^40 nonces, where no other limit was told.
+func TestFirstLimit(t *testing.T) {
+	base := begun()
+	// The mark's bytes stand behind its name, and how many there are, in the record's sector.
+	ahead := digits("core/mark\x00\x0c\x00\x00\x00\x01")
+	var at int
+	var sector string
+	for _, line := range from(play(t, append(base, "sectors")...), "sector ") {
+		if w := strings.Fields(line); strings.Contains(w[2], ahead) {
+			fmt.Sscanf(w[1], "%d", &at)
+			sector = w[2]
+		}
+	}
+	for mark, want := range map[uint64]string{1<<40 + 1: "code 11", 1 << 40: "code 8", 1<<40 - 3: "code 0 " + num(1)} {
+		begin, _, _ := strings.Cut(sector, ahead)
+		other := begin + ahead + num(mark) + sector[len(begin)+len(ahead)+16:]
+		got := play(t, append(base, fmt.Sprintf("tamper %d %s", at, other), "open 0", "do unseal - $a", "do unseal - $b", "do put kv/a tx n0")...)
+		if mark > 1<<40 {
+			got = got[:len(got)-1]
+		}
+		if last(got) != want {
+			t.Errorf("a mark of %d: %s", mark, last(got))
+		}
+	}
+}
+
 // TestP7: what is over stays over, leases end no later than their tokens, and what came of a token goes with it.
 func TestP7(t *testing.T) {
 	base := with("do policy-put pol x"+digits("* = read write delete"), "draw "+bytesOf(120, 5), "do token-create - tpol n20 n0", "keep 0 one", "keep 1 oneacc", "as $one", "do token-create - tpol n90 n0", "keep 0 two",

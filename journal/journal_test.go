@@ -193,6 +193,12 @@ func TestJO2(t *testing.T) {
 		d.Crash(nil)
 	}
 	appended(t, j, []byte("later"))
+	d = newDisk(t, 256)
+	j = start(t, d, 0, 256, 0)
+	appended(t, j, make([]byte, 14280))
+	if j.Free() != 1 || len(read(t, d, 0, 256)) != 1 {
+		t.Errorf("most bytes: %d", j.Free())
+	}
 	var none *journal.Journal
 	if testcode.Of(none.Append(nil)) != api.ErrArg || none.Free() != 0 || none.Last() != 0 {
 		t.Error("a nil Journal")

@@ -77,6 +77,9 @@ func TestPO1Printed(t *testing.T) {
 			t.Errorf("rules %d: %q %v", i, s, err)
 		}
 	}
+	if s, err := policy.Print(many(16)); err != nil || strings.Count(s, "\n") != 16 || policy.Check(many(16)) != nil {
+		t.Errorf("16 rules: %v", err)
+	}
 	// Each line has 64 - 4 bytes of pattern at most, " = read", and its end.
 	var l []policy.Rule
 	for i := range 8 {

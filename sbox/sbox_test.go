@@ -48,11 +48,11 @@ func TestSB1(t *testing.T) {
 			}
 		}
 	}
-	if w := b.Word(0x005301ff); w != 0x63ed7c16 {
+	if w := b.Word(0x530001ff); w != 0xed637c16 {
 		t.Errorf("Word: %x", w)
 	}
-	if sbox.New().Back(0x63) != 0 {
-		t.Error("Back, asked first")
+	if sbox.New().Back(0xed) != 0x53 || sbox.New().Word(0x53000000) != 0xed636363 {
+		t.Error("asked first")
 	}
 }
 

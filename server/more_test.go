@@ -175,6 +175,18 @@ func TestSV6Rotate(t *testing.T) {
 	}
 	x.refuses(api.ErrQuota, request.Rotate, x.root, "")
 	x.leads(21)
+	// What is refused by the server is no use of the token that asks.
+	x = newRig(t, 800).made(2, 3).granted(2)
+	some2 := x.does(request.TokenCreate, x.root, "", "root", num(0), num(2))[0]
+	for range 3 {
+		x.refuses(api.ErrState, request.RekeyCancel, some2, "")
+		x.refuses(api.ErrState, request.RekeyShare, some2, "", "", "")
+		x.refuses(api.ErrArg, request.RekeyStart, some2, "", num(0), num(0))
+	}
+	x.leads(11)
+	x.does(request.AuditHead, some2, "")
+	x.does(request.Rotate, some2, "")
+	x.refuses(api.ErrToken, request.AuditHead, some2, "")
 	// The turn stays, also if the commit behind tells an error.
 	x = newRig(t, 800).made(2, 3).granted(2)
 	x.d.Arm(5)
@@ -219,6 +231,13 @@ func TestSV6Rekey(t *testing.T) {
 	code, fields, taken := x.ask([]byte{1, 2, 0xa3, 4, 5}, request.RekeyStart, x.root, "", num(3), num(4))
 	if code != 0 || taken != 4 || fields[0] != "0102a304" {
 		t.Fatalf("rekey-start: %d %q %d", code, fields, taken)
+	}
+	if code, _, taken := x.ask([]byte{1, 2, 3, 4}, request.RekeyStart, x.root, "", num(12), num(12)); code != 0 || taken != 4 {
+		t.Errorf("12 of 12: %d %d", code, taken)
+	}
+	code, fields, _ = x.ask([]byte{1, 2, 0xa3, 4, 5}, request.RekeyStart, x.root, "", num(3), num(4))
+	if code != 0 {
+		t.Fatalf("in the place of one that there was: %d", code)
 	}
 	mark := fields[0]
 	x.refuses(api.ErrForm, request.RekeyShare, x.root, "", "other", "x")

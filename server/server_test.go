@@ -356,6 +356,10 @@ func TestSV4(t *testing.T) {
 	if code != 0 || taken != 4 || fields[0] != "01abff00" {
 		t.Fatalf("root-start: %d %q %d", code, fields, taken)
 	}
+	if code, fields, taken := x.ask([]byte{1, 2, 3, 4}, request.RootStart, "", ""); code != 0 || taken != 4 || fields[0] != "01020304" {
+		t.Errorf("four drawn: %d %q", code, fields)
+	}
+	_, fields, _ = x.ask([]byte{0x01, 0xab, 0xff, 0x00}, request.RootStart, "", "")
 	mark := fields[0]
 	x.refuses(api.ErrForm, request.RootShare, "", "", "other", "x")
 	x.refuses(api.ErrState, request.RootShare, "", "", "01abff01", x.parts[0])
@@ -489,16 +493,25 @@ func TestSV5(t *testing.T) {
 	if code != 0 || taken != 6 {
 		t.Errorf("taken: %d %d", code, taken)
 	}
-	// Behind an opening anew all is as it was.
+	// Opened anew at a later time, what is over is gone at once.
 	before := x.told()
+	short := x.does(request.TokenCreate, x.root, "", "", num(30), num(0))
+	x.reopen(187, limit)
+	x.open(2)
+	if x.told() != before || x.s.Now() != 187 {
+		t.Errorf("later: %s, not %s, without %s", x.told(), before, short[1])
+	}
+	x.does(request.TokenSelf, x.root, "")
+	equal(t, "swept as it was opened", names(x.last()), "-t/"+short[1]+" a/000013 h core/clock")
+	// Behind an opening anew all is as it was.
 	x.reopen(0, limit)
 	x.open(2)
-	if x.told() != before || x.s.Now() != 157 {
+	if x.told() != before || x.s.Now() != 187 {
 		t.Errorf("opened anew: %s, not %s", x.told(), before)
 	}
-	x.leads(11)
+	x.leads(13)
 	x.does(request.TokenSelf, x.root, "")
-	equal(t, "what was found is not written again", names(x.last()), "a/000012 h core/clock")
+	equal(t, "what was found is not written again", names(x.last()), "a/000014 h core/clock")
 }
 
 // TestSV5Refused: a log that is full, nonces that are used up, no room, and a disk that goes down.

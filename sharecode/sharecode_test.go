@@ -58,7 +58,7 @@ func TestSC1(t *testing.T) {
 // TestSC2 brings parts back, and cuts them short or makes them longer.
 func TestSC2(t *testing.T) {
 	for size := 1; size <= 64; size++ {
-		s := shamir.Share{Index: byte(size), Gen: uint32(size) << 20, Data: bytes.Repeat([]byte{byte(size)}, size)}
+		s := shamir.Share{Index: byte(size), Gen: uint32(size) * 0x03050709, Data: bytes.Repeat([]byte{byte(size)}, size)}
 		b, err := sharecode.Encode(s)
 		if err != nil {
 			t.Fatal(err)

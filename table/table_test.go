@@ -142,6 +142,15 @@ func TestTA2Bytes(t *testing.T) {
 	if err != nil || string(b) != want {
 		t.Fatalf("EncodeOps: %q %v", b, err)
 	}
+	long := put("a", strings.Repeat("x", 0x0203))
+	if b, err := table.EncodeOps([]table.Op{long}); err != nil || !bytes.HasPrefix(b, []byte("\x00\x01\x01\x01a\x02\x03x")) {
+		t.Errorf("the highest byte first: %q %v", b, err)
+	} else if l, err := table.DecodeOps(b); err != nil || len(l) != 1 || len(l[0].Data) != 0x0203 {
+		t.Errorf("the highest byte first: %v", err)
+	}
+	if l, err := table.DecodeOps([]byte("\x01\x02" + strings.Repeat("\x02\x01c", 0x0102))); err != nil || len(l) != 0x0102 {
+		t.Errorf("the highest byte first: %d %v", len(l), err)
+	}
 	if b, err := table.EncodeOps(nil); err != nil || string(b) != "\x00\x00" {
 		t.Errorf("no changes: %q %v", b, err)
 	}

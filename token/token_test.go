@@ -80,7 +80,9 @@ func right() []token.Token {
 func lists() map[string][]token.Token {
 	twin := of("b", "")
 	twin.Sum = of("a", "").Sum
-	l := map[string][]token.Token{"33": many(33), "descending": {of("b", ""), of("a", "")}, "twice": {of("a", ""), of("a", "")}, "one sum": {of("a", ""), twin}}
+	again := of("a", "")
+	again.Sum = of("b", "").Sum
+	l := map[string][]token.Token{"33": many(33), "an accessor twice": {of("a", ""), again}, "descending": {of("b", ""), of("a", "")}, "twice": {of("a", ""), of("a", "")}, "one sum": {of("a", ""), twin}}
 	for name, t := range wrong() {
 		l[name] = []token.Token{t}
 	}

@@ -401,6 +401,7 @@ func TestVA3Put(t *testing.T) {
 	play(t, s, step{op: request.Put, who: "all", path: "kv/a", args: []string{"x", num(never)}, fields: []string{num(3)}})
 	s.Secrets[0].S.Last, s.Secrets[0].S.L = 1<<32-1, []engine.Version{{N: 1<<32 - 1}}
 	play(t, s, step{op: request.Put, who: "all", path: "kv/a", args: []string{"x", num(never)}, code: api.ErrOver})
+	play(t, s, step{op: request.Put, who: "all", path: "kv/a", args: []string{"x", num(1<<32 - 1)}, code: api.ErrOver})
 	play(t, s, step{op: request.Get, who: "all", path: "kv/a", args: []string{num(1<<32 - 1)}, fields: []string{num(1<<32 - 1), "", num(0)}})
 }
 
