@@ -197,6 +197,21 @@ func TestSO2(t *testing.T) {
 	if s.Half() != 0 || s.Last() != 7 || told(open(t, d).Table()) != "a=1;b=2;d=;" {
 		t.Errorf("moved back: %d %d", s.Half(), s.Last())
 	}
+	// What has no room is told ahead of a disk that is down.
+	d.Arm(1)
+	d.Sync()
+	if err := s.Commit([]table.Op{put("b", strings.Repeat("x", 300))}); testcode.Of(err) != api.ErrFull || s.Dead() {
+		t.Errorf("no room, down: %v", err)
+	}
+	if err := s.Commit([]table.Op{take("none")}); testcode.Of(err) != api.ErrNone || s.Dead() {
+		t.Errorf("none is taken, down: %v", err)
+	}
+	if err := s.Commit(nil); testcode.Of(err) != api.ErrDown || !s.Dead() {
+		t.Errorf("down: %v", err)
+	}
+	if err := s.Commit([]table.Op{take("none")}); testcode.Of(err) != api.ErrDown {
+		t.Errorf("dead: %v", err)
+	}
 	var nilStore *store.Store
 	if testcode.Of(nilStore.Commit(nil)) != api.ErrArg {
 		t.Error("Commit of a nil Store")
