@@ -1,8 +1,6 @@
 package aes_test
 
 import (
-	"strconv"
-	"strings"
 	"testing"
 
 	"bursary/aes"
@@ -10,25 +8,6 @@ import (
 	"bursary/sha"
 	"bursary/testcode"
 )
-
-// some are bytes that look drawn, the same for a seed each time.
-func some(n int, seed uint32) []byte {
-	b := make([]byte, n)
-	for i := range b {
-		seed = seed*1664525 + 1013904223
-		b[i] = byte(seed >> 24)
-	}
-	return b
-}
-
-// digits are bytes as hexadecimal digits.
-func digits(b []byte) string {
-	var text strings.Builder
-	for _, x := range b {
-		text.WriteString(strconv.FormatUint(uint64(x)|0x100, 16)[1:])
-	}
-	return text.String()
-}
 
 // example are the key and the block of the chapter's example.
 func example(t *testing.T) (*aes.Key, aes.Block) {
@@ -52,22 +31,22 @@ func example(t *testing.T) (*aes.Key, aes.Block) {
 func TestAE1(t *testing.T) {
 	k, b := example(t)
 	got := k.Encrypt(b)
-	if digits(got[:]) != "8ea2b7ca516745bfeafc49904b496089" {
+	if testcode.Digits(got[:]) != "8ea2b7ca516745bfeafc49904b496089" {
 		t.Errorf("the example: %x", got)
 	}
 	sum := sha.New()
 	for n := range 200 {
-		k, err := aes.New(some(32, uint32(n)))
+		k, err := aes.New(testcode.Some(32, uint32(n)))
 		if err != nil {
 			t.Fatal(err)
 		}
-		got := k.Encrypt(aes.Block(some(16, uint32(n)+1000)))
+		got := k.Encrypt(aes.Block(testcode.Some(16, uint32(n)+1000)))
 		sum.Write(got[:])
-		if n == 2 && digits(got[:]) != "bc133c338ea15546f929a85062379469" {
+		if n == 2 && testcode.Digits(got[:]) != "bc133c338ea15546f929a85062379469" {
 			t.Errorf("the third one: %x", got)
 		}
 	}
-	if all := sum.Sum(); digits(all[:]) != "112634055aab91417327e60082717e8eadd781ff5159b114c08a74b89d3ce3b3" {
+	if all := sum.Sum(); testcode.Digits(all[:]) != "112634055aab91417327e60082717e8eadd781ff5159b114c08a74b89d3ce3b3" {
 		t.Errorf("two hundred: %x", all)
 	}
 	// The words of the key in FIPS 197, A.3.
@@ -118,7 +97,7 @@ func TestKept(t *testing.T) {
 	if none.Encrypt(aes.Block{1}) != (aes.Block{}) || none.Word(0) != 0 {
 		t.Error("a nil Key")
 	}
-	key := some(32, 1)
+	key := testcode.Some(32, 1)
 	k, _ := aes.New(key)
 	first := k.Encrypt(aes.Block{1})
 	clear(key)

@@ -16,21 +16,11 @@ import (
 	"bursary/testcode"
 )
 
-// some are bytes that look drawn, the same for a seed each time.
-func some(n int, seed uint32) []byte {
-	b := make([]byte, n)
-	for i := range b {
-		seed = seed*1664525 + 1013904223
-		b[i] = byte(seed >> 24)
-	}
-	return b
-}
-
 // made is a vault of k of n.
 func made(t *testing.T, k, n int, seed uint32) ceremony.Made {
 	t.Helper()
 	need, _ := ceremony.Need(k)
-	m, err := ceremony.Init(gf.New(), k, n, some(need, seed))
+	m, err := ceremony.Init(gf.New(), k, n, testcode.Some(need, seed))
 	if err != nil {
 		t.Fatal(err)
 	}
@@ -47,7 +37,7 @@ func TestCE1(t *testing.T) {
 			t.Errorf("Need(%d): %d %d", k, a, b)
 		}
 	}
-	g, draws := gf.New(), some(128, 1)
+	g, draws := gf.New(), testcode.Some(128, 1)
 	m, err := ceremony.Init(g, 2, 3, draws)
 	if err != nil {
 		t.Fatal(err)
@@ -72,7 +62,7 @@ func TestCE1(t *testing.T) {
 		{g, 12, 12, 448, 0}, {g, 2, 12, 128, 0}, {g, 2, 13, 128, api.ErrArg}, {g, 1, 3, 128, api.ErrArg}, {g, 4, 3, 500, api.ErrArg}, {g, 0, 0, 0, api.ErrArg}, {g, 13, 13, 999, api.ErrArg},
 		{g, 2, 2, 127, api.ErrShort}, {g, 3, 3, 159, api.ErrShort}, {g, 3, 3, 160, 0}, {g, 2, 2, 0, api.ErrShort}, {nil, 2, 2, 128, api.ErrArg}, {nil, 2, 2, 0, api.ErrArg},
 	} {
-		m, err := ceremony.Init(c.t, c.k, c.n, some(c.size, 1))
+		m, err := ceremony.Init(c.t, c.k, c.n, testcode.Some(c.size, 1))
 		if testcode.Of(err) != c.want || isNone(m) != (err != nil) {
 			t.Errorf("Init %d of %d with %d: %v", c.k, c.n, c.size, err)
 		}
@@ -83,7 +73,7 @@ func TestCE1(t *testing.T) {
 func TestCE2(t *testing.T) {
 	g, m := gf.New(), made(t, 2, 3, 1)
 	root, r, err := ceremony.Open(g, m)
-	if err != nil || !bytes.Equal(root, some(128, 1)[32:64]) || !reflect.DeepEqual(r, keyring.First([32]byte(some(128, 1)[64:96]))) {
+	if err != nil || !bytes.Equal(root, testcode.Some(128, 1)[32:64]) || !reflect.DeepEqual(r, keyring.First([32]byte(testcode.Some(128, 1)[64:96]))) {
 		t.Fatalf("Open: %x %v %v", root, r, err)
 	}
 	with := func(f func(*ceremony.Made)) ceremony.Made {
@@ -128,7 +118,7 @@ func TestCE2(t *testing.T) {
 func TestCE3(t *testing.T) {
 	g, m := gf.New(), made(t, 2, 3, 1)
 	root, ring, _ := ceremony.Open(g, m)
-	draws := some(96, 3)
+	draws := testcode.Some(96, 3)
 	next, err := ceremony.Rekey(g, m, root, 3, 5, draws)
 	if err != nil {
 		t.Fatal(err)
@@ -153,13 +143,13 @@ func TestCE3(t *testing.T) {
 		"no plan": {g, m, root, 1, 2, 64, api.ErrArg}, "13 parts": {g, m, root, 2, 13, 64, api.ErrArg}, "too few drawn": {g, m, root, 2, 2, 63, api.ErrShort}, "more drawn": {g, m, root, 2, 2, 65, 0},
 		"the last generation": {g, last, root, 2, 2, 64, api.ErrQuota}, "the last one, too few drawn": {g, last, root, 2, 2, 63, api.ErrShort}, "12 of 12": {g, m, root, 12, 12, 384, 0},
 	} {
-		x, err := ceremony.Rekey(c.t, c.m, c.root, c.k, c.n, some(c.size, 1))
+		x, err := ceremony.Rekey(c.t, c.m, c.root, c.k, c.n, testcode.Some(c.size, 1))
 		if testcode.Of(err) != c.want || isNone(x) != (err != nil) {
 			t.Errorf("Rekey, %s: %v", name, err)
 		}
 	}
-	turned, two, err := ceremony.Rotate(m, root, ring, some(40, 5))
-	want, _ := keyring.Rotate(ring, [32]byte(some(32, 5)))
+	turned, two, err := ceremony.Rotate(m, root, ring, testcode.Some(40, 5))
+	want, _ := keyring.Rotate(ring, [32]byte(testcode.Some(32, 5)))
 	sealed, _ := envelope.SealRing(root, want)
 	if err != nil || !reflect.DeepEqual(two, want) || !bytes.Equal(turned.Ring, sealed) || !reflect.DeepEqual(turned.Shares, m.Shares) || !bytes.Equal(turned.Envelope, m.Envelope) || turned.Config != m.Config {
 		t.Errorf("Rotate: %v %v", turned, err)
@@ -174,15 +164,15 @@ func TestCE3(t *testing.T) {
 		size int
 		want api.Errno
 	}{
-		"a root key of 33": {some(33, 1), ring, 32, api.ErrArg}, "too few drawn": {root, ring, 31, api.ErrShort}, "no ring, too few drawn": {root, keyring.Ring{}, 31, api.ErrShort},
+		"a root key of 33": {testcode.Some(33, 1), ring, 32, api.ErrArg}, "too few drawn": {root, ring, 31, api.ErrShort}, "no ring, too few drawn": {root, keyring.Ring{}, 31, api.ErrShort},
 		"no ring": {root, keyring.Ring{}, 32, api.ErrArg}, "17 terms": {root, full, 32, api.ErrQuota}, "17 terms, too few drawn": {root, full, 31, api.ErrShort},
 	} {
-		x, r, err := ceremony.Rotate(m, c.root, c.r, some(c.size, 1))
+		x, r, err := ceremony.Rotate(m, c.root, c.r, testcode.Some(c.size, 1))
 		if testcode.Of(err) != c.want || !isNone(x) || r.L != nil {
 			t.Errorf("Rotate, %s: %v", name, err)
 		}
 	}
-	if x, r, err := ceremony.Rotate(ceremony.Made{}, root, ring, some(32, 1)); err != nil || len(r.L) != 2 || len(x.Ring) != 95 {
+	if x, r, err := ceremony.Rotate(ceremony.Made{}, root, ring, testcode.Some(32, 1)); err != nil || len(r.L) != 2 || len(x.Ring) != 95 {
 		t.Errorf("Rotate of a vault that is not looked at: %v", err)
 	}
 }
@@ -203,17 +193,17 @@ func TestCE4(t *testing.T) {
 			root, r, err := ceremony.Open(g, m)
 			if enough := len(m.Shares) >= k; enough != (err == nil) {
 				t.Fatalf("%d of %d parts: %v", len(m.Shares), k, err)
-			} else if enough && (!bytes.Equal(root, some(64, uint32(k))[32:]) || len(r.L) != 1) {
+			} else if enough && (!bytes.Equal(root, testcode.Some(64, uint32(k))[32:]) || len(r.L) != 1) {
 				t.Fatalf("%d of %d parts: %x %v", len(m.Shares), k, root, r)
 			}
 		}
 		m.Shares = all
 		root, r, _ := ceremony.Open(g, m)
-		m, r, err := ceremony.Rotate(m, root, r, some(32, 9))
+		m, r, err := ceremony.Rotate(m, root, r, testcode.Some(32, 9))
 		if err != nil {
 			t.Fatal(err)
 		}
-		next, err := ceremony.Rekey(g, m, root, 2, 4, some(64, 7))
+		next, err := ceremony.Rekey(g, m, root, 2, 4, testcode.Some(64, 7))
 		if err != nil {
 			t.Fatal(err)
 		}
@@ -239,9 +229,9 @@ func TestCE4(t *testing.T) {
 func TestKept(t *testing.T) {
 	g, m := gf.New(), made(t, 2, 3, 1)
 	root, r, _ := ceremony.Open(g, m)
-	next, _ := ceremony.Rekey(g, m, root, 2, 2, some(64, 2))
+	next, _ := ceremony.Rekey(g, m, root, 2, 2, testcode.Some(64, 2))
 	clear(next.Ring)
-	turned, two, _ := ceremony.Rotate(m, root, r, some(32, 3))
+	turned, two, _ := ceremony.Rotate(m, root, r, testcode.Some(32, 3))
 	clear(turned.Ring)
 	clear(turned.Envelope)
 	clear(turned.Shares[0].Data)

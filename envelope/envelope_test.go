@@ -14,16 +14,6 @@ import (
 	"bursary/testcode"
 )
 
-// some are bytes that look drawn, the same for a seed each time.
-func some(n int, seed uint32) []byte {
-	b := make([]byte, n)
-	for i := range b {
-		seed = seed*1664525 + 1013904223
-		b[i] = byte(seed >> 24)
-	}
-	return b
-}
-
 // boxed are bytes, sealed with a key for a use.
 func boxed(t *testing.T, key []byte, use string, n uint32, number, plain []byte, beside string) []byte {
 	t.Helper()
@@ -44,7 +34,7 @@ func boxed(t *testing.T, key []byte, use string, n uint32, number, plain []byte,
 
 func rotated(t *testing.T, r keyring.Ring, seed uint32) keyring.Ring {
 	t.Helper()
-	next, err := keyring.Rotate(r, [32]byte(some(32, seed)))
+	next, err := keyring.Rotate(r, [32]byte(testcode.Some(32, seed)))
 	if err != nil {
 		t.Fatal(err)
 	}
@@ -53,7 +43,7 @@ func rotated(t *testing.T, r keyring.Ring, seed uint32) keyring.Ring {
 
 // TestEV1 seals the root key, and opens it, and does not.
 func TestEV1(t *testing.T) {
-	unseal, root := some(32, 1), some(32, 2)
+	unseal, root := testcode.Some(32, 1), testcode.Some(32, 2)
 	want := boxed(t, unseal, "envelope", 0x01020304, []byte{1, 2, 3, 4, 0, 0, 0, 0, 0, 0, 0, 0}, root, "core/envelope")
 	box, err := envelope.Seal(unseal, root, 0x01020304)
 	if err != nil || !bytes.Equal(box, want) || len(box) != 48 {
@@ -70,19 +60,19 @@ func TestEV1(t *testing.T) {
 		gen         uint32
 		want        api.Errno
 	}{
-		"another key": {some(32, 3), box, 0x01020304, api.ErrKey}, "another generation": {unseal, box, 0x01020305, api.ErrKey},
+		"another key": {testcode.Some(32, 3), box, 0x01020304, api.ErrKey}, "another generation": {unseal, box, 0x01020305, api.ErrKey},
 		"a bit turned": {unseal, turned, 0x01020304, api.ErrKey}, "cut": {unseal, box[:47], 0x01020304, api.ErrKey},
 		"longer": {unseal, append(bytes.Clone(box), 0), 0x01020304, api.ErrKey}, "nothing": {unseal, nil, 1, api.ErrKey},
 		"a root key of 31": {unseal, short, 7, api.ErrKey}, "a key of 31": {unseal[:31], box, 0x01020304, api.ErrArg},
-		"a key of 33": {some(33, 1), nil, 1, api.ErrArg},
+		"a key of 33": {testcode.Some(33, 1), nil, 1, api.ErrArg},
 	} {
 		if got, err := envelope.Open(c.unseal, c.box, c.gen); got != nil || testcode.Of(err) != c.want {
 			t.Errorf("Open, %s: %x %v", name, got, err)
 		}
 	}
 	for _, n := range []int{0, 31, 33} {
-		_, err1 := envelope.Seal(some(n, 1), root, 1)
-		_, err2 := envelope.Seal(unseal, some(n, 1), 1)
+		_, err1 := envelope.Seal(testcode.Some(n, 1), root, 1)
+		_, err2 := envelope.Seal(unseal, testcode.Some(n, 1), 1)
 		if testcode.Of(err1) != api.ErrArg || testcode.Of(err2) != api.ErrArg {
 			t.Errorf("Seal with keys of %d: %v %v", n, err1, err2)
 		}
@@ -91,7 +81,7 @@ func TestEV1(t *testing.T) {
 
 // TestEV2 seals rings, and opens them, and does not.
 func TestEV2(t *testing.T) {
-	root, r := some(32, 2), keyring.First([32]byte(some(32, 3)))
+	root, r := testcode.Some(32, 2), keyring.First([32]byte(testcode.Some(32, 3)))
 	plain, _ := keyring.Encode(r)
 	key, _ := hkdf.Key(root, "ring-nonce", 0)
 	sum := hmac.Mac(key, plain)
@@ -115,9 +105,9 @@ func TestEV2(t *testing.T) {
 		root, box []byte
 		want      api.Errno
 	}{
-		"another key": {some(32, 9), box, api.ErrIntegrity}, "27 bytes": {root, box[:27], api.ErrIntegrity}, "nothing": {root, nil, api.ErrIntegrity},
+		"another key": {testcode.Some(32, 9), box, api.ErrIntegrity}, "27 bytes": {root, box[:27], api.ErrIntegrity}, "nothing": {root, nil, api.ErrIntegrity},
 		"cut": {root, box[:62], api.ErrIntegrity}, "no ring's bytes": {root, none, api.ErrIntegrity}, "long": {root, make([]byte, 4000), api.ErrIntegrity},
-		"a key of 31": {root[:31], box, api.ErrArg}, "a key of 33": {some(33, 1), nil, api.ErrArg},
+		"a key of 31": {root[:31], box, api.ErrArg}, "a key of 33": {testcode.Some(33, 1), nil, api.ErrArg},
 	} {
 		if got, err := envelope.OpenRing(c.root, c.box); got.L != nil || testcode.Of(err) != c.want {
 			t.Errorf("OpenRing, %s: %v", name, err)
@@ -137,7 +127,7 @@ func second(_ []byte, err error) error { return err }
 
 // TestEV3: what was sealed is opened by the same key, rings of all sizes, and keys of all generations.
 func TestEV3(t *testing.T) {
-	root, r := some(32, 2), keyring.First([32]byte(some(32, 3)))
+	root, r := testcode.Some(32, 2), keyring.First([32]byte(testcode.Some(32, 3)))
 	nonces := map[string]bool{}
 	for n := 1; n <= 16; n++ {
 		box, err := envelope.SealRing(root, r)
@@ -156,11 +146,11 @@ func TestEV3(t *testing.T) {
 		t.Errorf("%d unlike nonces", len(nonces))
 	}
 	for gen := uint32(0); gen < 1<<31; gen = gen*3 + 1 {
-		box, err := envelope.Seal(some(32, gen), root, gen)
+		box, err := envelope.Seal(testcode.Some(32, gen), root, gen)
 		if err != nil {
 			t.Fatal(err)
 		}
-		if got, err := envelope.Open(some(32, gen), box, gen); err != nil || !bytes.Equal(got, root) {
+		if got, err := envelope.Open(testcode.Some(32, gen), box, gen); err != nil || !bytes.Equal(got, root) {
 			t.Fatalf("generation %d: %x %v", gen, got, err)
 		}
 		if gen > 1<<29 {

@@ -2,8 +2,6 @@ package gcm_test
 
 import (
 	"bytes"
-	"strconv"
-	"strings"
 	"testing"
 
 	"bursary/api"
@@ -11,25 +9,6 @@ import (
 	"bursary/sha"
 	"bursary/testcode"
 )
-
-// some are bytes that look drawn, the same for a seed each time.
-func some(n int, seed uint32) []byte {
-	b := make([]byte, n)
-	for i := range b {
-		seed = seed*1664525 + 1013904223
-		b[i] = byte(seed >> 24)
-	}
-	return b
-}
-
-// digits are bytes as hexadecimal digits.
-func digits(b []byte) string {
-	var text strings.Builder
-	for _, x := range b {
-		text.WriteString(strconv.FormatUint(uint64(x)|0x100, 16)[1:])
-	}
-	return text.String()
-}
 
 func newKey(t *testing.T, key []byte) *gcm.Key {
 	t.Helper()
@@ -44,33 +23,33 @@ func newKey(t *testing.T, key []byte) *gcm.Key {
 func TestGC1Sealed(t *testing.T) {
 	zero := newKey(t, make([]byte, 32))
 	box, err := zero.Seal(make([]byte, 12), nil, nil)
-	if err != nil || digits(box) != "530f8afbc74536b9a963b4f1c4cb738b" {
+	if err != nil || testcode.Digits(box) != "530f8afbc74536b9a963b4f1c4cb738b" {
 		t.Errorf("the example: %x %v", box, err)
 	}
 	box, err = zero.Seal(make([]byte, 12), make([]byte, 16), nil)
-	if err != nil || digits(box) != "cea7403d4d606b6e074ec5d3baf39d18d0d1c8a799996bf0265b98b5d48ab919" {
+	if err != nil || testcode.Digits(box) != "cea7403d4d606b6e074ec5d3baf39d18d0d1c8a799996bf0265b98b5d48ab919" {
 		t.Errorf("a block of noughts: %x %v", box, err)
 	}
 	sum := sha.New()
 	for n := range 100 {
-		k := newKey(t, some(32, uint32(n)))
-		box, err := k.Seal(some(12, uint32(n)+1), some(n, uint32(n)+2), some(n*7%40, uint32(n)+3))
+		k := newKey(t, testcode.Some(32, uint32(n)))
+		box, err := k.Seal(testcode.Some(12, uint32(n)+1), testcode.Some(n, uint32(n)+2), testcode.Some(n*7%40, uint32(n)+3))
 		if err != nil {
 			t.Fatal(err)
 		}
 		sum.Write(box)
-		if n == 18 && digits(box) != "5926fbc031615f0ae58a2ac264c176878a7c0c09d77c7742ee4602d949d001f48d7d" {
+		if n == 18 && testcode.Digits(box) != "5926fbc031615f0ae58a2ac264c176878a7c0c09d77c7742ee4602d949d001f48d7d" {
 			t.Errorf("18 bytes: %x", box)
 		}
 	}
-	if all := sum.Sum(); digits(all[:]) != "66242083ed84db3ff565b6efad4a8a308ebaab50d5f3cbc87f30f90085df2ba9" {
+	if all := sum.Sum(); testcode.Digits(all[:]) != "66242083ed84db3ff565b6efad4a8a308ebaab50d5f3cbc87f30f90085df2ba9" {
 		t.Errorf("a hundred boxes: %x", all)
 	}
-	box, err = newKey(t, some(32, 5)).Seal(some(12, 6), some(2048, 7), some(2048, 8))
-	if !newKey(t, some(32, 5)).Opens(some(12, 6), box, some(2048, 8)) {
+	box, err = newKey(t, testcode.Some(32, 5)).Seal(testcode.Some(12, 6), testcode.Some(2048, 7), testcode.Some(2048, 8))
+	if !newKey(t, testcode.Some(32, 5)).Opens(testcode.Some(12, 6), box, testcode.Some(2048, 8)) {
 		t.Error("as much as can be sealed is not opened")
 	}
-	if all := sha.Sum(box); err != nil || digits(all[:]) != "a820345caf7809a11abe8324ed7a302053e52a17b56b646145cd8edd76fda3bf" {
+	if all := sha.Sum(box); err != nil || testcode.Digits(all[:]) != "a820345caf7809a11abe8324ed7a302053e52a17b56b646145cd8edd76fda3bf" {
 		t.Errorf("as much as can be sealed: %x %v", all, err)
 	}
 }
@@ -82,9 +61,9 @@ func TestGC1Refused(t *testing.T) {
 			t.Errorf("a key of %d bytes: %v", n, err)
 		}
 	}
-	k, nonce := newKey(t, some(32, 1)), some(12, 2)
+	k, nonce := newKey(t, testcode.Some(32, 1)), testcode.Some(12, 2)
 	for name, c := range map[string]struct{ nonce, plain, aad []byte }{
-		"no nonce": {nil, nil, nil}, "a nonce of 11": {some(11, 1), nil, nil}, "a nonce of 13": {some(13, 1), nil, nil},
+		"no nonce": {nil, nil, nil}, "a nonce of 11": {testcode.Some(11, 1), nil, nil}, "a nonce of 13": {testcode.Some(13, 1), nil, nil},
 		"long bytes": {nonce, make([]byte, 2049), nil}, "long bytes beside": {nonce, nil, make([]byte, 2049)},
 	} {
 		if box, err := k.Seal(c.nonce, c.plain, c.aad); box != nil || testcode.Of(err) != api.ErrArg {
@@ -95,7 +74,7 @@ func TestGC1Refused(t *testing.T) {
 		nonce, box, aad []byte
 		want            api.Errno
 	}{
-		"no nonce": {nil, nil, nil, api.ErrArg}, "a nonce of 13": {some(13, 1), make([]byte, 15), nil, api.ErrArg},
+		"no nonce": {nil, nil, nil, api.ErrArg}, "a nonce of 13": {testcode.Some(13, 1), make([]byte, 15), nil, api.ErrArg},
 		"a long box": {nonce, make([]byte, 2065), nil, api.ErrArg}, "long bytes beside": {nonce, nil, make([]byte, 2049), api.ErrArg},
 		"a short box": {nonce, make([]byte, 15), nil, api.ErrIntegrity}, "no box": {nonce, nil, nil, api.ErrIntegrity},
 		"another tag": {nonce, make([]byte, 16), nil, api.ErrIntegrity}, "the longest box": {nonce, make([]byte, 2064), nil, api.ErrIntegrity},
@@ -118,9 +97,9 @@ func TestGC1Refused(t *testing.T) {
 
 // TestGC2 opens what was sealed, and nothing else.
 func TestGC2(t *testing.T) {
-	k, nonce, aad := newKey(t, some(32, 1)), some(12, 2), some(21, 3)
+	k, nonce, aad := newKey(t, testcode.Some(32, 1)), testcode.Some(12, 2), testcode.Some(21, 3)
 	for _, n := range []int{0, 1, 15, 16, 17, 33, 100, 2048} {
-		plain := some(n, uint32(n))
+		plain := testcode.Some(n, uint32(n))
 		box, err := k.Seal(nonce, plain, aad)
 		if err != nil || len(box) != n+16 {
 			t.Fatalf("Seal of %d: %v", n, err)
@@ -130,7 +109,7 @@ func TestGC2(t *testing.T) {
 			t.Fatalf("Open of %d: %x %v", n, out, err)
 		}
 	}
-	box, _ := k.Seal(nonce, some(20, 4), aad)
+	box, _ := k.Seal(nonce, testcode.Some(20, 4), aad)
 	for i := range box {
 		for bit := range 8 {
 			other := bytes.Clone(box)
@@ -154,20 +133,20 @@ func TestGC2(t *testing.T) {
 			t.Fatalf("other bytes beside at %d", i)
 		}
 	}
-	if k.Opens(nonce, box[1:], aad) || k.Opens(nonce, box[:len(box)-1], aad) || newKey(t, some(32, 9)).Opens(nonce, box, aad) {
+	if k.Opens(nonce, box[1:], aad) || k.Opens(nonce, box[:len(box)-1], aad) || newKey(t, testcode.Some(32, 9)).Opens(nonce, box, aad) {
 		t.Error("cut, or with another key")
 	}
 }
 
 // TestKept: arguments stay as they were.
 func TestKept(t *testing.T) {
-	k, nonce, plain, aad := newKey(t, some(32, 1)), some(12, 2), some(30, 3), some(40, 4)
+	k, nonce, plain, aad := newKey(t, testcode.Some(32, 1)), testcode.Some(12, 2), testcode.Some(30, 3), testcode.Some(40, 4)
 	box, _ := k.Seal(nonce, plain, aad)
 	like := bytes.Clone(box)
 	out, _ := k.Open(nonce, box, aad)
 	clear(out)
 	_ = append(out, 1, 2, 3)
-	if !bytes.Equal(nonce, some(12, 2)) || !bytes.Equal(plain, some(30, 3)) || !bytes.Equal(aad, some(40, 4)) || !bytes.Equal(box, like) {
+	if !bytes.Equal(nonce, testcode.Some(12, 2)) || !bytes.Equal(plain, testcode.Some(30, 3)) || !bytes.Equal(aad, testcode.Some(40, 4)) || !bytes.Equal(box, like) {
 		t.Error("what was handed in is changed")
 	}
 }

@@ -2,32 +2,15 @@ package hmac_test
 
 import (
 	"bytes"
-	"strconv"
-	"strings"
 	"testing"
 
 	"bursary/hmac"
 	"bursary/sha"
+	"bursary/testcode"
 )
 
-// some are bytes that look drawn, the same for a seed each time.
-func some(n int, seed uint32) []byte {
-	b := make([]byte, n)
-	for i := range b {
-		seed = seed*1664525 + 1013904223
-		b[i] = byte(seed >> 24)
-	}
-	return b
-}
-
 // digits is a sum as hexadecimal digits.
-func digits(sum [sha.Size]byte) string {
-	var text strings.Builder
-	for _, x := range sum {
-		text.WriteString(strconv.FormatUint(uint64(x)|0x100, 16)[1:])
-	}
-	return text.String()
-}
+func digits(sum [sha.Size]byte) string { return testcode.Digits(sum[:]) }
 
 // TestHM1 holds sums against those of HMAC with SHA-256: keys about the end of a block above all.
 func TestHM1(t *testing.T) {
@@ -44,7 +27,7 @@ func TestHM1(t *testing.T) {
 		{131, 54, "389c880a35716a8b6622218c9f53eab12d90773097a8e5d602672bcb6d2d1919"},
 		{200, 0, "a96b44142276cdfc4a8d9bb65b1f107dc7580bfd58bc5cb8b3d021a4a2920369"},
 	} {
-		if got := digits(hmac.Mac(some(c.key, 1), some(c.n, 2))); got != c.want {
+		if got := digits(hmac.Mac(testcode.Some(c.key, 1), testcode.Some(c.n, 2))); got != c.want {
 			t.Errorf("a key of %d, %d bytes: %s", c.key, c.n, got)
 		}
 	}
@@ -63,7 +46,7 @@ func TestHM1(t *testing.T) {
 	if k.Sum() != hmac.Mac([]byte("key"), []byte("ab")) {
 		t.Error("more written behind a sum")
 	}
-	got := digits(hmac.Parts([]byte("k"), []byte("ab"), nil, some(258, 3)))
+	got := digits(hmac.Parts([]byte("k"), []byte("ab"), nil, testcode.Some(258, 3)))
 	if got != "94520b1b3cca7d68756d62c39a18b1525c612b87f53ecf0de74448acceffe784" {
 		t.Errorf("parts: %s", got)
 	}
@@ -80,7 +63,7 @@ func TestHM1(t *testing.T) {
 
 // TestHM2 writes the same bytes in pieces, and cuts the same bytes into unlike parts.
 func TestHM2(t *testing.T) {
-	key, all := some(40, 1), some(150, 2)
+	key, all := testcode.Some(40, 1), testcode.Some(150, 2)
 	for i := range all {
 		k := hmac.New(key)
 		k.Write(all[:i])
@@ -99,7 +82,7 @@ func TestHM2(t *testing.T) {
 	if len(seen) != 153 { // all and nothing behind it was there
 		t.Errorf("unlike parts have one sum: %d", len(seen))
 	}
-	if !bytes.Equal(key, some(40, 1)) || !bytes.Equal(all, some(150, 2)) {
+	if !bytes.Equal(key, testcode.Some(40, 1)) || !bytes.Equal(all, testcode.Some(150, 2)) {
 		t.Error("what was handed in is changed")
 	}
 }

@@ -54,13 +54,7 @@ func bytesOf(n int, seed uint32) string {
 }
 
 // digits are those of a text's bytes.
-func digits(s string) string {
-	var out strings.Builder
-	for i := range len(s) {
-		out.WriteString(strconv.FormatUint(uint64(s[i])|0x100, 16)[1:])
-	}
-	return out.String()
-}
+func digits(s string) string { return testcode.Digits([]byte(s)) }
 
 // num is a number as digits of eight bytes.
 func num(n uint64) string { return strings.Repeat("0", 16-len(hex(n))) + hex(n) }

@@ -11,16 +11,6 @@ import (
 	"bursary/testcode"
 )
 
-// some are bytes that look drawn, the same for a seed each time.
-func some(n int, seed uint32) []byte {
-	b := make([]byte, n)
-	for i := range b {
-		seed = seed*1664525 + 1013904223
-		b[i] = byte(seed >> 24)
-	}
-	return b
-}
-
 // upTo are the places from 1 to n.
 func upTo(n int) []byte {
 	xs := make([]byte, n)
@@ -50,7 +40,7 @@ func TestPY1(t *testing.T) {
 		t.Fatal("of none, and of one number")
 	}
 	for n := range 12 {
-		c := some(n, uint32(n))
+		c := testcode.Some(n, uint32(n))
 		for x := range 256 {
 			if poly.Eval(g, c, byte(x)) != powers(g, c, byte(x)) {
 				t.Fatalf("%x at %x", c, x)
@@ -112,7 +102,7 @@ func inverse(g *gf.Table, a byte) byte {
 func TestPY3(t *testing.T) {
 	g := gf.New()
 	for n := 1; n <= 255; n += 23 {
-		c, xs := some(n, uint32(n)), upTo(n)
+		c, xs := testcode.Some(n, uint32(n)), upTo(n)
 		slices.Reverse(xs)
 		ys := make([]byte, n)
 		for i, x := range xs {
@@ -124,7 +114,7 @@ func TestPY3(t *testing.T) {
 			}
 		}
 	}
-	c, d := some(6, 1), some(9, 2)
+	c, d := testcode.Some(6, 1), testcode.Some(9, 2)
 	p := poly.Mul(g, c, d)
 	if len(p) != 14 {
 		t.Fatalf("a product of 6 and 9 numbers has %d", len(p))

@@ -16,18 +16,8 @@ import (
 // plan is that of the tests.
 var plan = shamir.Plan{K: 3, N: 5, Gen: 7}
 
-// some are bytes that look drawn, the same for a seed each time.
-func some(n int, seed uint32) []byte {
-	b := make([]byte, n)
-	for i := range b {
-		seed = seed*1664525 + 1013904223
-		b[i] = byte(seed >> 24)
-	}
-	return b
-}
-
 func part(index byte, gen uint32, size int) shamir.Share {
-	return shamir.Share{Index: index, Gen: gen, Data: some(size, uint32(index))}
+	return shamir.Share{Index: index, Gen: gen, Data: testcode.Some(size, uint32(index))}
 }
 
 func of(l ...shamir.Share) progress.Progress {
@@ -122,8 +112,8 @@ func TestPG1Refused(t *testing.T) {
 
 // TestPG2: in whatever order parts come, they make the secret.
 func TestPG2(t *testing.T) {
-	g, secret := gf.New(), some(32, 1)
-	parts, err := shamir.Split(g, secret, plan, some(64, 2))
+	g, secret := gf.New(), testcode.Some(32, 1)
+	parts, err := shamir.Split(g, secret, plan, testcode.Some(64, 2))
 	if err != nil {
 		t.Fatal(err)
 	}

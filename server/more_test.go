@@ -18,6 +18,7 @@ import (
 	"bursary/sharecode"
 	"bursary/store"
 	"bursary/table"
+	"bursary/testcode"
 	"bursary/token"
 )
 
@@ -140,11 +141,11 @@ func TestSV6Seal(t *testing.T) {
 func TestSV6Rotate(t *testing.T) {
 	x := newRig(t, 800).made(2, 3).granted(2)
 	x.does(request.Put, x.root, "kv/a", "old", num(never))
-	if code, _, _ := x.ask(some(31, 1), request.Rotate, x.root, ""); code != api.ErrShort {
+	if code, _, _ := x.ask(testcode.Some(31, 1), request.Rotate, x.root, ""); code != api.ErrShort {
 		t.Errorf("too few drawn: %d", code)
 	}
 	x.leads(3)
-	draws := some(40, 8)
+	draws := testcode.Some(40, 8)
 	before := len(x.records())
 	code, fields, taken := x.ask(draws, request.Rotate, x.root, "")
 	if code != 0 || taken != 32 || len(fields) != 0 {
@@ -225,7 +226,7 @@ func TestSV6Rekey(t *testing.T) {
 	}{{"", num(2), api.ErrForm}, {num(1), "x", api.ErrForm}, {num(1), num(2), api.ErrArg}, {num(2), num(13), api.ErrArg}, {num(256), num(256), api.ErrArg}, {num(3), num(2), api.ErrArg}, {num(never), num(never), api.ErrArg}} {
 		x.refuses(c.want, request.RekeyStart, x.root, "", c.k, c.n)
 	}
-	if code, _, _ := x.ask(some(3, 1), request.RekeyStart, x.root, "", num(2), num(2)); code != api.ErrShort {
+	if code, _, _ := x.ask(testcode.Some(3, 1), request.RekeyStart, x.root, "", num(2), num(2)); code != api.ErrShort {
 		t.Errorf("too few drawn: %d", code)
 	}
 	code, fields, taken := x.ask([]byte{1, 2, 0xa3, 4, 5}, request.RekeyStart, x.root, "", num(3), num(4))
@@ -248,11 +249,11 @@ func TestSV6Rekey(t *testing.T) {
 	wrong[30] ^= 1
 	x.refuses(api.ErrKey, request.RekeyShare, x.root, "", mark, string(wrong))
 	equal(t, "one again", x.does(request.RekeyShare, x.root, "", mark, old[2]), []string{num(1)})
-	if code, _, _ := x.ask(some(95, 1), request.RekeyShare, x.root, "", mark, old[0]); code != api.ErrShort {
+	if code, _, _ := x.ask(testcode.Some(95, 1), request.RekeyShare, x.root, "", mark, old[0]); code != api.ErrShort {
 		t.Errorf("too few drawn: %d", code)
 	}
 	root := x.does(request.RootStart, "", "")[0]
-	draws := some(120, 9)
+	draws := testcode.Some(120, 9)
 	ahead := vaultOf(t, mustStore(t, x), old)
 	key, _, _ := ceremony.Open(gf.New(), ahead)
 	want, err := ceremony.Rekey(gf.New(), ahead, key, 3, 4, draws)
@@ -354,7 +355,7 @@ func TestSV7(t *testing.T) {
 		logged := uint64(0)
 		for i := range 40 {
 			op, who, path, args := crashing(x, i)
-			draws := some(100, uint32(i+50))
+			draws := testcode.Some(100, uint32(i+50))
 			before = x.told()
 			h, _ := x.s.Head()
 			logged = h.N
@@ -407,7 +408,7 @@ func TestSV7Rekey(t *testing.T) {
 		mark := x.does(request.RekeyStart, x.root, "", num(2), num(4))[0]
 		x.does(request.RekeyShare, x.root, "", mark, x.parts[0])
 		x.d.Arm(step)
-		draws := some(64, 77)
+		draws := testcode.Some(64, 77)
 		code, fields, _ := x.ask(draws, request.RekeyShare, x.root, "", mark, x.parts[1])
 		if code == 0 {
 			if step < 3 || len(fields) != 4 {

@@ -12,6 +12,7 @@ import (
 	"bursary/request"
 	"bursary/server"
 	"bursary/table"
+	"bursary/testcode"
 	"bursary/vault"
 	"bursary/wire"
 )
@@ -29,16 +30,6 @@ type rig struct {
 	seed  uint32
 	parts []string
 	root  string
-}
-
-// some are bytes that look drawn, the same for a seed each time.
-func some(n int, seed uint32) []byte {
-	b := make([]byte, n)
-	for i := range b {
-		seed = seed*1664525 + 1013904223
-		b[i] = byte(seed >> 24)
-	}
-	return b
 }
 
 // num is a number as an arg.
@@ -107,7 +98,7 @@ func (x *rig) ask(draws []byte, op int, who, path string, args ...string) (api.E
 func (x *rig) does(op int, who, path string, args ...string) []string {
 	x.t.Helper()
 	x.seed++
-	code, fields, _ := x.ask(some(500, x.seed), op, who, path, args...)
+	code, fields, _ := x.ask(testcode.Some(500, x.seed), op, who, path, args...)
 	if code != 0 {
 		x.t.Fatalf("%s of %q: %d", request.Name(op), path, code)
 	}
@@ -118,7 +109,7 @@ func (x *rig) does(op int, who, path string, args ...string) []string {
 func (x *rig) refuses(want api.Errno, op int, who, path string, args ...string) {
 	x.t.Helper()
 	before := x.told()
-	code, _, _ := x.ask(some(500, 3), op, who, path, args...)
+	code, _, _ := x.ask(testcode.Some(500, 3), op, who, path, args...)
 	if code != want {
 		x.t.Errorf("%s of %q by %q: %d, not %d", request.Name(op), path, who, code, want)
 	}

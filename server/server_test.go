@@ -157,7 +157,7 @@ func TestSV1Asked(t *testing.T) {
 func TestSV2(t *testing.T) {
 	x := newRig(t, 400)
 	for s, want := range map[string]string{"": "\x00\x04", "\x03\x00\x01\x1e\x00\x00\x00\x00": "\x00\x04", strings.Repeat("x", 1025): "\x00\x03", "\x03\x00\x01\x04\x00\x01x\x00\x00": "\x00\x04"} {
-		b, taken := x.s.Step([]byte(s), some(100, 1))
+		b, taken := x.s.Step([]byte(s), testcode.Some(100, 1))
 		if string(b) != "\x01\x00\x02"+want || taken != 0 {
 			t.Errorf("%q: %x, %d taken", s, b, taken)
 		}
@@ -222,10 +222,10 @@ func TestSV3Init(t *testing.T) {
 	} {
 		x.refuses(c.want, request.Init, "", "", c.k, c.n)
 	}
-	if code, _, _ := x.ask(some(127, 1), request.Init, "", "", num(2), num(3)); code != api.ErrShort {
+	if code, _, _ := x.ask(testcode.Some(127, 1), request.Init, "", "", num(2), num(3)); code != api.ErrShort {
 		t.Errorf("too few drawn: %d", code)
 	}
-	draws := some(200, 7)
+	draws := testcode.Some(200, 7)
 	code, fields, taken := x.ask(draws, request.Init, "", "", num(2), num(3))
 	if code != 0 || taken != 128 || len(fields) != 3 || !x.s.Ready() {
 		t.Fatalf("Init: %d %d", code, taken)
@@ -349,7 +349,7 @@ func TestSV4(t *testing.T) {
 	x.open(2)
 	x.refuses(api.ErrState, request.RootCancel, "", "")
 	x.refuses(api.ErrState, request.RootShare, "", "", "", "")
-	if code, _, _ := x.ask(some(3, 1), request.RootStart, "", ""); code != api.ErrShort {
+	if code, _, _ := x.ask(testcode.Some(3, 1), request.RootStart, "", ""); code != api.ErrShort {
 		t.Errorf("too few drawn: %d", code)
 	}
 	code, fields, taken := x.ask([]byte{0x01, 0xab, 0xff, 0x00, 9}, request.RootStart, "", "")
@@ -369,13 +369,13 @@ func TestSV4(t *testing.T) {
 	wrong[30] ^= 1
 	x.refuses(api.ErrKey, request.RootShare, "", "", mark, string(wrong))
 	equal(t, "one again", x.does(request.RootShare, "", "", mark, x.parts[2]), []string{num(1)})
-	if code, _, _ := x.ask(some(21, 1), request.RootShare, "", "", mark, x.parts[0]); code != api.ErrShort {
+	if code, _, _ := x.ask(testcode.Some(21, 1), request.RootShare, "", "", mark, x.parts[0]); code != api.ErrShort {
 		t.Errorf("too few drawn: %d", code)
 	}
 	x.leads(0)
-	draws := some(40, 5)
+	draws := testcode.Some(40, 5)
 	code, fields, taken = x.ask(draws, request.RootShare, "", "", mark, x.parts[0])
-	if code != 0 || taken != 22 || len(fields) != 2 || fields[0] != digits(draws[:16]) || fields[1] != "t"+digits(draws[16:22]) {
+	if code != 0 || taken != 22 || len(fields) != 2 || fields[0] != testcode.Digits(draws[:16]) || fields[1] != "t"+testcode.Digits(draws[16:22]) {
 		t.Fatalf("a root token: %d %q %d", code, fields, taken)
 	}
 	x.leads(1)
@@ -420,15 +420,6 @@ func TestSV4Refused(t *testing.T) {
 	x.leads(1)
 }
 
-// digits are bytes' hexadecimal ones.
-func digits(b []byte) string {
-	var s strings.Builder
-	for _, c := range b {
-		s.WriteString(strconv.FormatUint(uint64(c)|0x100, 16)[1:])
-	}
-	return s.String()
-}
-
 // auditKey is the key of a vault's log, that was made of drawn bytes.
 func auditKey(t *testing.T, draws []byte) []byte {
 	t.Helper()
@@ -443,7 +434,7 @@ func auditKey(t *testing.T, draws []byte) []byte {
 func TestSV5(t *testing.T) {
 	x := newRig(t, 800)
 	x.refuses(api.ErrInit, request.TokenSelf, "x", "")
-	draws := some(200, 2)
+	draws := testcode.Some(200, 2)
 	_, x.parts, _ = x.ask(draws, request.Init, "", "", num(2), num(3))
 	x.refuses(api.ErrSealed, request.TokenSelf, "x", "")
 	x.open(2)
@@ -485,11 +476,11 @@ func TestSV5(t *testing.T) {
 	x.s.Tick(50)
 	x.does(request.TokenSelf, x.root, "")
 	equal(t, "swept", names(x.last()), "-t/"+made[1]+" a/000009 h core/clock")
-	code, _, taken := x.ask(some(30, 1), request.TokenCreate, x.root, "", "", num(0), num(0))
+	code, _, taken := x.ask(testcode.Some(30, 1), request.TokenCreate, x.root, "", "", num(0), num(0))
 	if code != 0 || taken != 22 {
 		t.Errorf("taken: %d %d", code, taken)
 	}
-	code, _, taken = x.ask(some(30, 2), request.LeaseIssue, x.root, "p", num(0))
+	code, _, taken = x.ask(testcode.Some(30, 2), request.LeaseIssue, x.root, "p", num(0))
 	if code != 0 || taken != 6 {
 		t.Errorf("taken: %d %d", code, taken)
 	}

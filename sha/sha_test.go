@@ -2,31 +2,14 @@ package sha_test
 
 import (
 	"bytes"
-	"strconv"
-	"strings"
 	"testing"
 
 	"bursary/sha"
+	"bursary/testcode"
 )
 
-// some are bytes that look drawn, the same for a seed each time.
-func some(n int, seed uint32) []byte {
-	b := make([]byte, n)
-	for i := range b {
-		seed = seed*1664525 + 1013904223
-		b[i] = byte(seed >> 24)
-	}
-	return b
-}
-
 // digits is a sum as hexadecimal digits.
-func digits(sum [sha.Size]byte) string {
-	var text strings.Builder
-	for _, x := range sum {
-		text.WriteString(strconv.FormatUint(uint64(x)|0x100, 16)[1:])
-	}
-	return text.String()
-}
+func digits(sum [sha.Size]byte) string { return testcode.Digits(sum[:]) }
 
 // TestHA1 holds sums against those that SHA-256 has, about the ends of blocks above all.
 func TestHA1(t *testing.T) {
@@ -49,7 +32,7 @@ func TestHA1(t *testing.T) {
 		{128, "a46949b549b016c00294f674f78eb6895957eefb837bb5becaa97f3fe24d919a"},
 		{1000, "f438db7fa7243024503ed9da533e7c3136d5ffa8c9cd321f8004b63c686ff2e9"},
 	} {
-		if got := digits(sha.Sum(some(c.n, uint32(c.n)))); got != c.want {
+		if got := digits(sha.Sum(testcode.Some(c.n, uint32(c.n)))); got != c.want {
 			t.Errorf("of %d bytes: %s", c.n, got)
 		}
 	}
@@ -61,7 +44,7 @@ func TestHA1(t *testing.T) {
 	}
 	h := sha.New()
 	for n := range 300 {
-		sum := sha.Sum(some(n, uint32(n)))
+		sum := sha.Sum(testcode.Some(n, uint32(n)))
 		h.Write(sum[:])
 	}
 	if got := digits(h.Sum()); got != "a61cca6caf9f019d24355782101e32fd75ffceaaa5fc2e9407843a140cab7b0a" {
@@ -86,7 +69,7 @@ func TestWrittenOn(t *testing.T) {
 
 // TestHA2 writes the same bytes in all ways of two and three pieces.
 func TestHA2(t *testing.T) {
-	all := some(200, 9)
+	all := testcode.Some(200, 9)
 	want := sha.Sum(all)
 	for i := range all {
 		h := sha.New()
@@ -106,7 +89,7 @@ func TestHA2(t *testing.T) {
 			t.Fatalf("in pieces of %d", step)
 		}
 	}
-	if !bytes.Equal(all, some(200, 9)) {
+	if !bytes.Equal(all, testcode.Some(200, 9)) {
 		t.Error("what was written is changed")
 	}
 }

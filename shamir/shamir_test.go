@@ -12,16 +12,6 @@ import (
 	"bursary/testcode"
 )
 
-// some are bytes that look drawn, the same for a seed each time.
-func some(n int, seed uint32) []byte {
-	b := make([]byte, n)
-	for i := range b {
-		seed = seed*1664525 + 1013904223
-		b[i] = byte(seed >> 24)
-	}
-	return b
-}
-
 // TestSH1 holds plans, draws and parts against the chapter.
 func TestSH1(t *testing.T) {
 	for _, c := range []struct {
@@ -56,12 +46,12 @@ func TestSH1(t *testing.T) {
 		t.Fatalf("draws by their bytes: %v %v", l, err)
 	}
 	for name, f := range map[string]func() ([]shamir.Share, error){
-		"no table":       func() ([]shamir.Share, error) { return shamir.Split(nil, []byte{1}, p, some(2, 1)) },
+		"no table":       func() ([]shamir.Share, error) { return shamir.Split(nil, []byte{1}, p, testcode.Some(2, 1)) },
 		"no plan":        func() ([]shamir.Share, error) { return shamir.Split(g, []byte{1}, shamir.Plan{K: 1, N: 1}, nil) },
 		"no secret":      func() ([]shamir.Share, error) { return shamir.Split(g, nil, p, nil) },
-		"a long secret":  func() ([]shamir.Share, error) { return shamir.Split(g, some(65, 1), p, some(130, 1)) },
-		"too few draws":  func() ([]shamir.Share, error) { return shamir.Split(g, some(4, 1), p, some(7, 1)) },
-		"too many draws": func() ([]shamir.Share, error) { return shamir.Split(g, some(4, 1), p, some(9, 1)) },
+		"a long secret":  func() ([]shamir.Share, error) { return shamir.Split(g, testcode.Some(65, 1), p, testcode.Some(130, 1)) },
+		"too few draws":  func() ([]shamir.Share, error) { return shamir.Split(g, testcode.Some(4, 1), p, testcode.Some(7, 1)) },
+		"too many draws": func() ([]shamir.Share, error) { return shamir.Split(g, testcode.Some(4, 1), p, testcode.Some(9, 1)) },
 	} {
 		if l, err := f(); l != nil || testcode.Of(err) != api.ErrArg {
 			t.Errorf("%s: %v %v", name, l, err)
@@ -88,7 +78,7 @@ func TestSH2(t *testing.T) {
 		"alike":                      {[]shamir.Share{a, a}, api.ErrShare},
 		"a longer one":               {[]shamir.Share{a, {2, 4, []byte{3, 3}}}, api.ErrShare},
 		"empty ones":                 {[]shamir.Share{{1, 4, nil}, {2, 4, nil}}, api.ErrShare},
-		"too long ones":              {[]shamir.Share{{1, 4, some(65, 1)}, {2, 4, some(65, 2)}}, api.ErrShare},
+		"too long ones":              {[]shamir.Share{{1, 4, testcode.Some(65, 1)}, {2, 4, testcode.Some(65, 2)}}, api.ErrShare},
 		"a place above N is no less": {[]shamir.Share{a, {200, 4, []byte{0}}}, 0},
 	} {
 		s, err := shamir.Combine(g, c.l, p)
@@ -125,8 +115,8 @@ func TestSH2(t *testing.T) {
 // TestSH3: any K parts make the secret; fewer go with any secret, by just one draw.
 func TestSH3(t *testing.T) {
 	g, p := gf.New(), shamir.Plan{K: 3, N: 6, Gen: 1}
-	secret := some(64, 5)
-	l, err := shamir.Split(g, secret, p, some(128, 6))
+	secret := testcode.Some(64, 5)
+	l, err := shamir.Split(g, secret, p, testcode.Some(128, 6))
 	if err != nil {
 		t.Fatal(err)
 	}

@@ -8,6 +8,7 @@ import (
 	"bursary/api"
 	"bursary/lease"
 	"bursary/request"
+	"bursary/testcode"
 	"bursary/vault"
 )
 
@@ -254,7 +255,7 @@ func TestVA8(t *testing.T) {
 		if request.Open(op) && draw(2) == 0 {
 			r.Token = nil
 		}
-		next, answer, taken := vault.Do(s, r, some(draw(40), seed))
+		next, answer, taken := vault.Do(s, r, testcode.Some(draw(40), seed))
 		if err := vault.Check(next); err != nil {
 			t.Fatalf("behind %v the state may not be", r)
 		}

@@ -19,16 +19,6 @@ import (
 
 const never = 1<<64 - 1
 
-// some are bytes that look drawn, the same for a seed each time.
-func some(n int, seed uint32) []byte {
-	b := make([]byte, n)
-	for i := range b {
-		seed = seed*1664525 + 1013904223
-		b[i] = byte(seed >> 24)
-	}
-	return b
-}
-
 // salt is that of the tests.
 var salt = string(bytes.Repeat([]byte{7}, 32))
 
@@ -88,16 +78,10 @@ type step struct {
 }
 
 // draws are those of the tests.
-var draws = string(some(30, 9))
+var draws = string(testcode.Some(30, 9))
 
 // digits are bytes' hexadecimal ones.
-func digits(b string) string {
-	var s strings.Builder
-	for i := range len(b) {
-		s.WriteString(strconv.FormatUint(uint64(b[i])|0x100, 16)[1:])
-	}
-	return s.String()
-}
+func digits(b string) string { return testcode.Digits([]byte(b)) }
 
 // play asks a state, and looks at the answer: the state behind it.
 func play(t *testing.T, s vault.State, x step) vault.State {

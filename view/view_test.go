@@ -16,16 +16,6 @@ import (
 
 const never = 1<<64 - 1
 
-// some are bytes that look drawn, the same for a seed each time.
-func some(n int, seed uint32) []byte {
-	b := make([]byte, n)
-	for i := range b {
-		seed = seed*1664525 + 1013904223
-		b[i] = byte(seed >> 24)
-	}
-	return b
-}
-
 func num(n uint64) string { return string(wire.Number(n)) }
 
 // newDisk is one of so many sectors.
@@ -58,7 +48,7 @@ func ask(t *testing.T, s *server.Server, seed uint32, op int, who, path string, 
 	if err != nil {
 		t.Fatal(err)
 	}
-	answer, _ := s.Step(b, some(300, seed))
+	answer, _ := s.Step(b, testcode.Some(300, seed))
 	x, err := request.Parse(answer)
 	if err != nil || x.Code != 0 {
 		t.Fatalf("%s: %d %v", request.Name(op), x.Code, err)
@@ -138,7 +128,7 @@ func TestVW2(t *testing.T) {
 	s = open(t, d, 7)
 	d.Arm(1)
 	r, _ := request.Encode(request.Request{Op: request.Init, Args: [][]byte{wire.Number(2), wire.Number(2)}})
-	s.Step(r, some(200, 1))
+	s.Step(r, testcode.Some(200, 1))
 	if got := view.Server(s); got != "server 0 1 1 7\n" {
 		t.Errorf("dead: %q", got)
 	}
