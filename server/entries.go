@@ -3,6 +3,7 @@ package server
 import (
 	"bytes"
 	"cmp"
+	"errors"
 	"slices"
 	"strconv"
 	"strings"
@@ -124,10 +125,9 @@ func (s *Server) commit(state vault.State, written audit.Entry, more []table.Op)
 	return nil
 }
 
-// fill takes an entry that was read into the state: an error, if it is none by that name.
-func (in *opened) fill(name string, data []byte) error {
-	kind, rest, _ := strings.Cut(name, "/")
-	switch kind + "/" {
+// fill takes an entry that was read into the state: an error, if it is none by what stands behind the prefix.
+func (in *opened) fill(prefix, rest string, data []byte) error {
+	switch prefix {
 	case policyPrefix:
 		in.state.Policies = append(in.state.Policies, vault.Named{Name: rest, Text: string(data)})
 	case tokenPrefix:
@@ -148,49 +148,42 @@ func (in *opened) fill(name string, data []byte) error {
 			return err
 		}
 		in.state.Secrets = append(in.state.Secrets, vault.Stored{Path: secretsPath + rest, S: x})
-	case logPrefix:
-		e, err := audit.Decode(data)
-		if err != nil || logName(e.N) != name {
-			return api.ErrIntegrity
-		}
-		// The log's entries are no part of the state.
-		return nil
 	}
-	in.kept = append(in.kept, entry{name, data})
+	in.kept = append(in.kept, entry{prefix + rest, data})
 	return nil
 }
 
-// isSealed tells whether an entry is one of those that are.
-func isSealed(name string) bool {
-	for _, prefix := range []string{policyPrefix, tokenPrefix, leasePrefix, secretPrefix, logPrefix} {
-		if strings.HasPrefix(name, prefix) {
-			return true
-		}
-	}
-	return false
-}
-
-// load reads all entries, into a state at a time.
+// load reads all entries of a state, at a time, and the log's head. The log's own are read where they are asked for.
 func (in *opened) load(salt []byte, now uint64) error {
 	in.state = vault.State{Salt: salt, Now: now}
-	for _, name := range in.Names("") {
-		if name != headName && !isSealed(name) {
-			continue
-		}
-		data, err := in.Read(name)
-		if err != nil {
-			return err
-		}
-		if name == headName {
-			in.head, err = chain.Decode(data)
-		} else {
-			err = in.fill(name, data)
-		}
-		if err != nil {
-			return err
+	for _, prefix := range []string{leasePrefix, policyPrefix, secretPrefix, tokenPrefix} {
+		for _, name := range in.Names(prefix) {
+			data, err := in.Read(name)
+			if err != nil {
+				return err
+			}
+			if err := in.fill(prefix, strings.TrimPrefix(name, prefix), data); err != nil {
+				return err
+			}
 		}
 	}
+	if err := in.loadHead(); err != nil {
+		return err
+	}
 	return vault.Check(in.state)
+}
+
+// loadHead reads the log's head, if there is one yet.
+func (in *opened) loadHead() error {
+	data, err := in.Read(headName)
+	if errors.Is(err, api.ErrNone) {
+		return nil
+	}
+	if err != nil {
+		return err
+	}
+	in.head, err = chain.Decode(data)
+	return err
 }
 
 // enter is what there is behind a root key and a ring.

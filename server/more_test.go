@@ -25,11 +25,10 @@ import (
 // entry is one that is to be sealed.
 type entry struct{ name, data string }
 
-// Bytes of a token, a lease and an entry of the log.
+// Bytes of a token, and of a lease.
 var (
 	token1 = must(token.Encode(token.Token{Accessor: "a"}))
 	lease1 = must(lease.Encode(lease.Lease{ID: "a", Token: "a", Path: "p", Until: 1 << 40, Most: 1 << 40}))
-	log1   = must(audit.Encode(audit.Entry{N: 1, Op: 3}))
 )
 
 func must(b []byte, err error) string {

@@ -283,16 +283,14 @@ func TestSV3Unseal(t *testing.T) {
 // TestSV3Integrity opens vaults whose entries are not what they should be.
 func TestSV3Integrity(t *testing.T) {
 	for name, f := range map[string]func(x *rig, st *store.Store) []table.Op{
-		"nothing done":          func(x *rig, st *store.Store) []table.Op { return nil },
-		"a mark too great":      func(x *rig, st *store.Store) []table.Op { return put("core/mark", make([]byte, 13)) },
-		"a policy cut":          func(x *rig, st *store.Store) []table.Op { return put("p/pol", make([]byte, 20)) },
-		"a token of another":    func(x *rig, st *store.Store) []table.Op { return moved(st, "p/pol", "p/poll") },
-		"the head cut":          func(x *rig, st *store.Store) []table.Op { return put("h", nil) },
-		"an entry of the log":   func(x *rig, st *store.Store) []table.Op { return put("a/000001", make([]byte, 60)) },
-		"a log's entry renamed": func(x *rig, st *store.Store) []table.Op { return moved(st, "a/000001", "a/000009") },
-		"a secret elsewhere":    func(x *rig, st *store.Store) []table.Op { return moved(st, "s/a", "s/b") },
-		"another ring":          func(x *rig, st *store.Store) []table.Op { return put("core/ring", make([]byte, 63)) },
-		"what is not sealed":    func(x *rig, st *store.Store) []table.Op { return put("other", []byte("x")) },
+		"nothing done":       func(x *rig, st *store.Store) []table.Op { return nil },
+		"a mark too great":   func(x *rig, st *store.Store) []table.Op { return put("core/mark", make([]byte, 13)) },
+		"a policy cut":       func(x *rig, st *store.Store) []table.Op { return put("p/pol", make([]byte, 20)) },
+		"a token of another": func(x *rig, st *store.Store) []table.Op { return moved(st, "p/pol", "p/poll") },
+		"the head cut":       func(x *rig, st *store.Store) []table.Op { return put("h", nil) },
+		"a secret elsewhere": func(x *rig, st *store.Store) []table.Op { return moved(st, "s/a", "s/b") },
+		"another ring":       func(x *rig, st *store.Store) []table.Op { return put("core/ring", make([]byte, 63)) },
+		"what is not sealed": func(x *rig, st *store.Store) []table.Op { return put("other", []byte("x")) },
 	} {
 		x := newRig(t, 400).made(2, 3).granted(2)
 		x.does(request.PolicyPut, x.root, "pol", "a = read")
@@ -319,9 +317,8 @@ func TestSV3Integrity(t *testing.T) {
 	// What is sealed rightly, and still may not be.
 	for name, l := range map[string][]entry{
 		"no rules": {{"p/pol", "x"}}, "the policy root": {{"p/root", ""}}, "a token's bytes": {{"t/a", "tk"}}, "no name": {{"p/", ""}}, "no path": {{"s/A", "se\x08\x00\x00\x00\x00\x00"}},
-		"a lease's bytes": {{"l/a", "le"}}, "a secret's bytes": {{"s/a", "se"}}, "a head's bytes": {{"h", "x"}}, "a log's bytes": {{"a/000001", "au"}}, "a token of another name": {{"t/b", token1}},
-		"a lease of another name": {{"l/b", lease1}}, "a log's entry of another number": {{"a/000002", log1}}, "one of five digits": {{"a/00001", log1}},
-		"right": {{"t/a", token1}, {"l/a", lease1}, {"a/000001", log1}, {"s/a", "se\x08\x00\x00\x00\x00\x00"}, {"p/pol", ""}},
+		"a lease's bytes": {{"l/a", "le"}}, "a secret's bytes": {{"s/a", "se"}}, "a head's bytes": {{"h", "x"}}, "a token of another name": {{"t/b", token1}},
+		"a lease of another name": {{"l/b", lease1}}, "right": {{"t/a", token1}, {"l/a", lease1}, {"s/a", "se\x08\x00\x00\x00\x00\x00"}, {"p/pol", ""}},
 	} {
 		x := newRig(t, 400).made(2, 3)
 		x.lay(l)
@@ -330,6 +327,38 @@ func TestSV3Integrity(t *testing.T) {
 		code, _, _ := x.ask(nil, request.Unseal, "", "", x.parts[2])
 		if want := name == "right"; want != (code == 0) || !want && code != api.ErrIntegrity {
 			t.Errorf("%s: %d", name, code)
+		}
+	}
+}
+
+// TestSV1Log asks for logs whose entries are not what they should be: the vault is opened all the same.
+func TestSV1Log(t *testing.T) {
+	for name, c := range map[string]struct {
+		f     func(st *store.Store) []table.Op
+		n     int
+		leads bool
+		err   api.Errno
+	}{
+		"nothing done":       {func(st *store.Store) []table.Op { return nil }, 3, true, 0},
+		"one cut":            {func(st *store.Store) []table.Op { return put("a/000002", make([]byte, 20)) }, 0, false, api.ErrIntegrity},
+		"one that is none":   {func(st *store.Store) []table.Op { return put("a/000002", make([]byte, 60)) }, 0, false, api.ErrIntegrity},
+		"one renamed":        {func(st *store.Store) []table.Op { return moved(st, "a/000001", "a/000009") }, 0, false, api.ErrIntegrity},
+		"one taken away":     {func(st *store.Store) []table.Op { return []table.Op{{Del: true, Name: "a/000002"}} }, 2, false, 0},
+		"the last one, too":  {func(st *store.Store) []table.Op { return []table.Op{{Del: true, Name: "a/000003"}} }, 2, false, 0},
+		"the head, and none": {func(st *store.Store) []table.Op { return []table.Op{{Del: true, Name: "h"}} }, 3, false, 0},
+	} {
+		x := newRig(t, 400).made(2, 3).granted(2)
+		x.does(request.TokenSelf, x.root, "")
+		x.does(request.TokenSelf, x.root, "")
+		st := mustStore(t, x)
+		if err := st.Commit(c.f(st)); err != nil {
+			t.Fatal(err)
+		}
+		x.reopen(0, limit)
+		x.open(2)
+		l, leads, err := x.s.Log()
+		if len(l) != c.n || leads != c.leads || testcode.Of(err) != c.err {
+			t.Errorf("%s: %d entries, leads %v, %v", name, len(l), leads, err)
 		}
 	}
 }
