@@ -257,6 +257,34 @@ func TestSO2Long(t *testing.T) {
 	}
 }
 
+// TestSO2Names: changes with more names between them than a table has, and a table that is full.
+func TestSO2Names(t *testing.T) {
+	d := newDisk(t, 400)
+	s := open(t, d)
+	var l []table.Op
+	for i := range 256 {
+		l = append(l, put("n"+strconv.Itoa(1000+i), ""))
+	}
+	commit(t, s, l...)
+	commit(t, s, put("x", "1"), take("n1000"))
+	if got := open(t, d).Table(); s.Last() != 3 || len(got.L) != 256 || told(got) != told(s.Table()) || got.L[255].Name != "x" {
+		t.Errorf("one more between the changes: %d, %s", s.Last(), told(got))
+	}
+	like := d.Safe()
+	for i, c := range []struct {
+		l    []table.Op
+		want api.Errno
+	}{
+		{[]table.Op{put("y", "")}, api.ErrFull},
+		{[]table.Op{put("y", ""), put("z", ""), take("n1001")}, api.ErrFull},
+		{[]table.Op{put("y", ""), take("z")}, api.ErrNone},
+	} {
+		if err := s.Commit(c.l); testcode.Of(err) != c.want || len(s.Table().L) != 256 || !bytes.Equal(like, d.Safe()) || s.Last() != 3 || s.Dead() {
+			t.Errorf("commit %d: %v", i, err)
+		}
+	}
+}
+
 // TestSO2Numbers: numbers that are used up.
 func TestSO2Numbers(t *testing.T) {
 	d := newDisk(t, 8)

@@ -120,17 +120,58 @@ func TestTA2Applied(t *testing.T) {
 	if told(x) != "b=b;d=d;" {
 		t.Error("the table that was handed in is changed")
 	}
-	if got, err := table.Apply(many(256), []table.Op{put("x", "")}); got.L != nil || testcode.Of(err) != api.ErrFull {
-		t.Errorf("one more than 256: %v", err)
-	}
-	if got, err := table.Apply(many(256), []table.Op{take("n1000"), put("x", ""), put("x", "y")}); err != nil || len(got.L) != 256 {
-		t.Errorf("256 again: %v", err)
-	}
-	if _, err := table.Apply(many(256), []table.Op{put("x", ""), take("n1000")}); testcode.Of(err) != api.ErrFull {
-		t.Errorf("more than 256 on the way: %v", err)
-	}
 	if got, err := table.Apply(table.Table{}, []table.Op{put("a", strings.Repeat("x", 2048))}); err != nil || len(got.L[0].Data) != 2048 {
 		t.Errorf("2048 bytes: %v", err)
+	}
+}
+
+// TestTA2Full: there are 256 at most behind all changes, whatever there was between them.
+func TestTA2Full(t *testing.T) {
+	for i, c := range []struct {
+		n    int
+		l    []table.Op
+		want int
+		err  api.Errno
+	}{
+		{255, []table.Op{put("x", "")}, 256, 0},
+		{256, nil, 256, 0},
+		{256, []table.Op{put("n1000", "y")}, 256, 0},
+		{256, []table.Op{take("n1000"), put("x", ""), put("x", "y")}, 256, 0},
+		{256, []table.Op{put("x", ""), take("n1000")}, 256, 0},
+		{256, []table.Op{put("x", ""), take("x")}, 256, 0},
+		{256, []table.Op{put("x", ""), put("y", ""), take("n1000"), take("n1255")}, 256, 0},
+		{256, []table.Op{put("x", "")}, 0, api.ErrFull},
+		{255, []table.Op{put("x", ""), put("y", "")}, 0, api.ErrFull},
+		{256, []table.Op{put("x", ""), put("y", ""), take("n1000")}, 0, api.ErrFull},
+		{256, []table.Op{put("x", ""), take("x"), put("y", "")}, 0, api.ErrFull},
+		{256, []table.Op{put("x", ""), take("y")}, 0, api.ErrNone},
+		{256, []table.Op{put("x", ""), take("x"), take("x")}, 0, api.ErrNone},
+		{256, []table.Op{take("y"), put("x", "")}, 0, api.ErrNone},
+		{256, []table.Op{put("x", ""), take("y"), put("", "")}, 0, api.ErrArg},
+	} {
+		got, err := table.Apply(many(c.n), c.l)
+		if testcode.Of(err) != c.err || len(got.L) != c.want || table.Check(got) != nil {
+			t.Errorf("changes %d: %d entries, %v", i, len(got.L), err)
+		}
+	}
+	got, err := table.Apply(of("b"), append(table.Ops(many(256)), take("n1000"), put("a", "1")))
+	if testcode.Of(err) != api.ErrFull || got.L != nil {
+		t.Errorf("one more than 256: %d entries, %v", len(got.L), err)
+	}
+	got, err = table.Apply(of("b"), append(table.Ops(many(256)), take("n1000"), put("b", "1")))
+	if err != nil || len(got.L) != 256 || string(got.L[0].Data) != "1" || got.L[1].Name != "n1001" || got.L[255].Name != "n1255" {
+		t.Errorf("256 again: %d entries, %v", len(got.L), err)
+	}
+	// As many changes as can be told as bytes.
+	var l []table.Op
+	for i := range 32767 {
+		l = append(l, put("m"+strconv.Itoa(i), ""))
+	}
+	for i := range 32767 {
+		l = append(l, take("m"+strconv.Itoa(i)))
+	}
+	if got, err := table.Apply(many(256), l); err != nil || told(got) != told(many(256)) {
+		t.Errorf("32767 names put and taken away: %d entries, %v", len(got.L), err)
 	}
 }
 
@@ -234,6 +275,47 @@ func TestTA3(t *testing.T) {
 		if err != nil || told(y) != told(x) {
 			t.Fatalf("%s comes back as %s: %v", told(x), told(y), err)
 		}
+	}
+}
+
+// TestTA3Full: of tables that are full, or nearly: where the first changes tell no error, the others tell the same behind them as all at once.
+func TestTA3Full(t *testing.T) {
+	seed := uint32(7)
+	draw := func(n int) int {
+		seed = seed*1664525 + 1013904223
+		return int(seed>>16) % n
+	}
+	changes := func() []table.Op {
+		var l []table.Op
+		for range draw(6) {
+			name := "n" + strconv.Itoa(1250+draw(10))
+			if draw(2) == 0 {
+				l = append(l, take(name))
+			} else {
+				l = append(l, put(name, strconv.Itoa(draw(9))))
+			}
+		}
+		return l
+	}
+	seen := map[api.Errno]int{}
+	x := many(255)
+	for range 2000 {
+		l, m := changes(), changes()
+		one, err := table.Apply(x, l)
+		if err != nil {
+			seen[testcode.Of(err)]++
+			continue
+		}
+		two, err2 := table.Apply(one, m)
+		both, err := table.Apply(x, append(slices.Clone(l), m...))
+		if testcode.Of(err) != testcode.Of(err2) || told(both) != told(two) {
+			t.Fatalf("%v and %v: %v, not %v", l, m, err, err2)
+		}
+		seen[testcode.Of(err)]++
+		x = one
+	}
+	if len(seen) != 3 || seen[0] == 0 || seen[api.ErrNone] == 0 || seen[api.ErrFull] == 0 {
+		t.Errorf("what was told: %v", seen)
 	}
 }
 
